@@ -1,0 +1,1 @@
+"""Passenger records made by entries of agents."""

@@ -1,0 +1,16 @@
+"""The numbers by which calls and entries are refused."""
+
+OUT_OF_RANGE = -2
+NOT_ENTRIES = -3
+WRONG_HAND = -4
+FULL = -5
+WRONG_FLIGHT = -6
+NO_SEGMENT = -7
+NO_ROOM = -8
+NO_RECORD = -9
+NO_SUCH_PLACE = -10
+WRONG_SEATS = -11
+OLD_VERSION = -12
+NOT_COMPLETE = -13
+NOT_TO_DIVIDE = -14
+DAY_IS_PAST = -15
