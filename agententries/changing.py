@@ -3,13 +3,12 @@
 Each answers 0 if it was done, else the number of its refusal.
 """
 
+from agententries.flights import segment_refusal
 from agententries.records import (
     CANCELLED, CONFIRMED, NAMES_ADDED, NAME_TAKEN_OUT, PART_ADDED, PART_CANCELLED, TICKETED, TIME_LIMIT, WAITING,
     Name, Part,
 )
-from agententries.refusals import (
-    DAY_IS_PAST, FULL, NO_ROOM, NO_SEGMENT, NO_SUCH_PLACE, WRONG_FLIGHT, WRONG_HAND,
-)
+from agententries.refusals import DAY_IS_PAST, FULL, NO_ROOM, NO_SUCH_PLACE, WRONG_HAND
 from agententries.state import new_hand
 
 MOST_CHANGES = 30
@@ -62,10 +61,7 @@ def segment_of(values):
 def part_refusal(house, hand, values):
     if log_is_full(hand) or len(hand.content.parts) >= MOST_PARTS:
         return FULL
-    flight = flight_of(house, values)
-    if flight is None:
-        return WRONG_FLIGHT
-    return 0 if flight.has_segment(segment_of(values)) else NO_SEGMENT
+    return segment_refusal(flight_of(house, values), segment_of(values))
 
 
 def add_part(house, agent, hand, part):

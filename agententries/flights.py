@@ -1,5 +1,7 @@
 """Flights: their limits, the seats sold of their segments, and the room that is left."""
 
+from agententries.refusals import NO_SEGMENT, WRONG_FLIGHT
+
 
 class Flight:
     """A flight with a leg for each capacity. A segment is a tuple (i, j, c)."""
@@ -32,8 +34,18 @@ class Flight:
     def room(self, segment):
         return min([self.room_on_leg(leg, segment[2]) for leg in range(segment[0], segment[1])])
 
+    def sold_by_class(self, i, j):
+        return [self.sold.get((i, j, c), 0) for c in range(self.classes)]
+
     def sell(self, segment, seats):
         self.sold[segment] = self.sold.get(segment, 0) + seats
 
     def give_back(self, segment, seats):
         self.sold[segment] = self.sold[segment] - seats
+
+
+def segment_refusal(flight, segment):
+    """Why there is no such segment: the number of the refusal, 0 if there is one. flight: None if there is none."""
+    if flight is None:
+        return WRONG_FLIGHT
+    return 0 if flight.has_segment(segment) else NO_SEGMENT

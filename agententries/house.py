@@ -1,14 +1,14 @@
 """The calls on a house, and the one function that answers a list of them."""
 
 from agententries.entries import do_entries
-from agententries.flights import Flight
+from agententries.flights import Flight, segment_refusal
 from agententries.reading import read_text
-from agententries.records import answered_content
+from agententries.records import answered_content, answered_history, locator_of
 from agententries.refusals import (
     DAY_IS_PAST, FULL, NOT_ENTRIES, NO_RECORD, NO_SEGMENT, OUT_OF_RANGE, WRONG_FLIGHT,
 )
 from agententries.state import House, record_with_locator
-from agententries.upkeep import confirm_waiting, lapse_records
+from agententries.upkeep import confirm_waiting, lapse_records, waiting_line
 
 MOST_FLIGHTS = 24
 
@@ -20,20 +20,25 @@ LEGS = (1, 4)
 CLASSES = (1, 12)
 LEG = (0, 3)
 LIMIT = (0, 999)
+START = (0, 3)
+END = (1, 4)
+CLASS = (0, 11)
+PLACE = (1, 40)
 TEXT_LENGTH = (1, 120)
 LOCATOR_LENGTH = (6, 6)
+BEGINNING_LENGTH = (0, 12)
 
 
 def within(number, bounds):
     return bounds[0] <= number <= bounds[1]
 
 
-def all_within(numbers, bounds):
-    return all([within(number, bounds) for number in numbers])
+def each_within(numbers, ranges):
+    return all([within(number, bounds) for number, bounds in zip(numbers, ranges)])
 
 
 def row_is_good(row, length, bounds):
-    return within(len(row), length) and all_within(row, bounds)
+    return within(len(row), length) and all([within(number, bounds) for number in row])
 
 
 def call_entry(house, numbers, row):
@@ -46,9 +51,9 @@ def call_entry(house, numbers, row):
 
 
 def call_new_flight(house, numbers, row):
-    if not within(numbers[0], NUM) or not within(numbers[1], DAY) or not within(numbers[2], LEGS):
+    if not each_within(numbers, (NUM, DAY, LEGS, CLASSES)):
         return [OUT_OF_RANGE]
-    if not within(numbers[3], CLASSES) or not row_is_good(row, (numbers[2], numbers[2]), LIMIT):
+    if not row_is_good(row, (numbers[2], numbers[2]), LIMIT):
         return [OUT_OF_RANGE]
     key = (numbers[0], numbers[1])
     if key in house.flights:
@@ -60,9 +65,7 @@ def call_new_flight(house, numbers, row):
 
 
 def call_limits(house, numbers, row):
-    if not within(numbers[0], NUM) or not within(numbers[1], DAY) or not within(numbers[2], LEG):
-        return [OUT_OF_RANGE]
-    if not row_is_good(row, CLASSES, LIMIT):
+    if not each_within(numbers, (NUM, DAY, LEG)) or not row_is_good(row, CLASSES, LIMIT):
         return [OUT_OF_RANGE]
     flight = house.flights.get((numbers[0], numbers[1]))
     if flight is None:
@@ -105,10 +108,65 @@ def call_hand(house, numbers, row):
     return [0, 1, place] + answered_content(hand.content)
 
 
-CALLS = (call_entry, call_new_flight, call_limits, call_clock, call_clear, call_record, call_hand)
+def call_history(house, numbers, row):
+    if not row_is_good(row, LOCATOR_LENGTH, BYTE):
+        return [OUT_OF_RANGE]
+    record = record_with_locator(house, row)
+    if record is None:
+        return [NO_RECORD]
+    return [0] + answered_history(record.history)
+
+
+def call_find(house, numbers, row):
+    if not row_is_good(row, BEGINNING_LENGTH, BYTE):
+        return [OUT_OF_RANGE]
+    return [0] + [record.place for record in house.records if record.content.has_last_name(row)]
+
+
+def call_line(house, numbers, row):
+    answer = [0]
+    for spot in waiting_line(house):
+        answer.extend([spot[1], spot[2]])
+    return answer
+
+
+def call_room(house, numbers, row):
+    if not each_within(numbers, (NUM, DAY, START, END, CLASS)):
+        return [OUT_OF_RANGE]
+    flight = house.flights.get((numbers[0], numbers[1]))
+    segment = (numbers[2], numbers[3], numbers[4])
+    refusal = segment_refusal(flight, segment)
+    if refusal != 0:
+        return [refusal]
+    return [0, flight.room(segment)]
+
+
+def call_sold(house, numbers, row):
+    if not each_within(numbers, (NUM, DAY, START, END)):
+        return [OUT_OF_RANGE]
+    flight = house.flights.get((numbers[0], numbers[1]))
+    # Class 0 stands for all of them: every flight has it.
+    refusal = segment_refusal(flight, (numbers[2], numbers[3], 0))
+    if refusal != 0:
+        return [refusal]
+    return [0] + flight.sold_by_class(numbers[2], numbers[3])
+
+
+def call_locator(house, numbers, row):
+    if not within(numbers[0], PLACE):
+        return [OUT_OF_RANGE]
+    if len(house.records) < numbers[0]:
+        return [NO_RECORD]
+    return [0] + locator_of(numbers[0])
+
+
+CALLS = (
+    call_entry, call_new_flight, call_limits, call_clock, call_clear, call_record, call_hand,
+    call_history, call_find, call_line, call_room, call_sold, call_locator,
+)
 # How many plain numbers each call has, and how many rows behind them.
-NUMBERS = (1, 4, 3, 1, 0, 0, 1)
-ROWS = (1, 1, 1, 0, 0, 1, 0)
+NUMBERS = (1, 4, 3, 1, 0, 0, 1, 0, 0, 0, 5, 4, 1)
+ROWS = (1, 1, 1, 0, 0, 1, 0, 1, 1, 0, 0, 0, 0)
 
 
 def answers_of(house, calls):

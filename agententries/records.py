@@ -61,6 +61,9 @@ class Content:
         self.limit = limit
         self.ticketed = ticketed
 
+    def has_last_name(self, beginning):
+        return any([bytes_of(name.last)[:len(beginning)] == beginning for name in self.names])
+
     def living_parts(self):
         return [part for part in self.parts if part.lives()]
 
@@ -101,9 +104,13 @@ def locator_of(place):
     return letters
 
 
+def bytes_of(text):
+    return [ord(letter) for letter in text]
+
+
 def answered_name(name):
-    last = [ord(letter) for letter in name.last]
-    first = [ord(letter) for letter in name.first]
+    last = bytes_of(name.last)
+    first = bytes_of(name.first)
     return [name.number, len(last)] + last + [len(first)] + first
 
 
@@ -119,4 +126,11 @@ def answered_content(content):
     answer.append(len(content.parts))
     for part in content.parts:
         answer.extend(answered_part(part))
+    return answer
+
+
+def answered_history(history):
+    answer = []
+    for row in history:
+        answer.extend(row)
     return answer

@@ -79,6 +79,27 @@ class Desk:
     def hand(self, agent):
         return self.peek([6, agent])
 
+    def history(self, place):
+        """The rows of the record at this place, four numbers each."""
+        answer = self.peek(row_call([7], numbers_of(locator(place))))
+        assert answer[0] == 0 and len(answer) % 4 == 1
+        return [tuple(answer[at:at + 4]) for at in range(1, len(answer), 4)]
+
+    def find(self, beginning):
+        return self.peek(row_call([8], numbers_of(beginning)))
+
+    def line(self):
+        return self.peek([9])
+
+    def room_told(self, num, day, i, j, c):
+        return self.peek([10, num, day, i, j, c])
+
+    def sold(self, num, day, i, j):
+        return self.peek([11, num, day, i, j])
+
+    def locator(self, k):
+        return self.peek([12, k])
+
     def room(self, segment):
         """How many seats an agent with nothing in hand could take of it, at most 9. segment: as in S, behind n."""
         for n in range(1, 10):
@@ -115,4 +136,4 @@ def fill_history(desk, rows):
         desk.enter(0, f"*{locator(1)};{';'.join(['T1'] * more)}")
         assert desk.enter(0, "E") == ended(1, 1)
         there += more
-    assert len(desk.house().records[0].history) == rows
+    assert len(desk.history(1)) == rows

@@ -95,6 +95,53 @@ class Interface(unittest.TestCase):
     def test_two_hundred_calls(self):
         self.assertEqual(answers([6, 0] * 200), [2, 0, 0] * 200)
 
+    def test_two_hundred_calls_of_all_kinds(self):
+        made = [
+            (row_call([1, 44, 10, 2, 2], [9, 5]), [0]),
+            (row_call([2, 44, 10, 1], [5, 3]), [0]),
+            (entry_call(0, "N2LEE/ANN/BOB;S2,44,10,A,0,2;W2,44,10,B,1,2;T3;E"), [0, 5, 0] + numbers_of(locator(1))),
+            (entry_call(1, "N1LEED/EVE;W1,44,10,B,0,2;E"), [0, 3, 0] + numbers_of(locator(2))),
+            (entry_call(2, f"*{locator(1)};D2"), [0, 2, 0] + numbers_of(locator(3))),
+            ([4], [0, 1, 2, 3, 2, 2, 1]),
+            (entry_call(3, f"*{locator(2)};W1,44,10,A,0,1;K;E"), [0, 4, 0] + numbers_of(locator(2))),
+            ([3, 3], [0]),
+            (entry_call(3, f"*{locator(3)};T9;E;N1FOX/ZOE"), [0, 4, 0] + numbers_of(locator(3))),
+            ([3, 5], [0, 1]),
+        ]
+        names = [(3, "LEED", "EVE")]
+        parts = [(44, 10, 0, 2, 1, 0, 1), (44, 10, 0, 1, 0, 1, 1)]
+        rows = [0, 0, 1, 2, 0, 0, 3, 2, 0, 0, 3, 2, 0, 0, 7, 3, 0, 2, 9, 1, 0, 4, 5, 2, 5, 4, 4, 1, 5, 4, 4, 2]
+        asked = [
+            (row_call([0, 3], numbers_of("?")), [-3]),
+            (entry_call(0, "E"), [0, 0, -4]),
+            (row_call([1, 44, 10, 1, 1], [1]), [-6]),
+            (row_call([2, 44, 10, 2], [1, 1]), [-7]),
+            ([3, 4], [-15]),
+            ([3, 5], [0]),
+            (row_call([5], numbers_of(locator(2))), [0, 3] + content(None, True, names, parts)),
+            ([6, 3], [0, 1, 0] + content(names=[(0, "FOX", "ZOE")])),
+            ([6, 2], [0, 0]),
+            (row_call([7], numbers_of(locator(1))), [0] + rows),
+            (row_call([7], numbers_of(locator(4))), [-9]),
+            (row_call([8], []), [0, 1, 2, 3]),
+            (row_call([8], numbers_of("LEED")), [0, 2]),
+            (row_call([8], [256]), [-2]),
+            ([9], [0, 2, 2]),
+            ([10, 44, 10, 0, 2, 1], [0, 1]),
+            ([10, 44, 10, 0, 2, 2], [-7]),
+            ([11, 44, 10, 0, 2], [0, 1, 1]),
+            ([11, 44, 11, 0, 2], [-6]),
+            ([12, 3], [0] + numbers_of(locator(3))),
+            ([12, 4], [-9]),
+        ]
+        # What is asked, one behind another in many orders, answers the same each time: it changes nothing.
+        pairs = made + [asked[k * k * 4 % 21 if k % 2 else k % 21] for k in range(190)]
+        self.assertEqual(len(pairs), 200)
+        self.assertTrue(all(pair in pairs for pair in asked))
+        calls = [number for call, answer in pairs for number in call]
+        self.assertEqual(separated(answers(calls)), [answer for call, answer in pairs])
+        self.assertEqual({call[0] for call, answer in pairs}, set(range(13)))
+
     def test_limits_handed_in_are_not_held(self):
         calls = row_call([1, 1, 0, 1, 1], [1]) + row_call([2, 1, 0, 0], [3]) + entry_call(0, "S3,1,0,A,0,1")
         self.assertEqual(separated(answers(calls)), [[0], [0], [0, 1, 0]])

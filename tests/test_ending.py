@@ -255,7 +255,7 @@ class LongHistories(unittest.TestCase):
         desk = self.desk_with_rows(100)
         desk.enter(0, "I")
         self.assertEqual(desk.clock(2), [0, 1])
-        self.assertEqual(len(desk.house().records[0].history), 101)
+        self.assertEqual(len(desk.history(1)), 101)
         self.assertEqual(desk.enter(0, f"*{locator(1)};E"), [0, 1, -5])
         self.assertEqual(desk.hand(0)[:3], [0, 1, 1])
         self.assertEqual(desk.enter(0, "I"), [0, 1, 0])

@@ -158,7 +158,7 @@ class Rooms(unittest.TestCase):
         self.assertEqual([desk.room(f"1,0,{letter},0,1") for letter in "AB"], [4, 0])
         self.assertEqual([desk.room(f"1,0,{letter},0,2") for letter in "AB"], [4, 0])
         self.assertEqual(desk.room("1,0,B,1,2"), 4)
-        self.assertEqual(desk.house().flights[(1, 0)].room((0, 2, 1)), 0)
+        self.assertEqual(desk.room_told(1, 0, 0, 2, 1), [0, 0])
         desk.limits(1, 0, 0, [9, 6])
         self.assertEqual(desk.room("1,0,B,0,1"), 1)
 

@@ -51,6 +51,16 @@ def owned_of(house, flight):
     return owned
 
 
+def room_left(flight, owned, i, j, c):
+    """The room as the seats that belong to somebody leave it."""
+    rooms = []
+    for leg in range(i, j):
+        for k in range(c + 1):
+            nest = sum(seats for (a, b, d), seats in owned.items() if a <= leg < b and d >= k)
+            rooms.append(max(0, flight.limits[leg][k] - nest))
+    return min(rooms)
+
+
 def some_entry(chance, house):
     num, day, classes, capacities = chance.choice(FLIGHTS)
     i = chance.randrange(len(capacities))
@@ -107,6 +117,35 @@ class SeatsBelong(unittest.TestCase):
                 self.assertTrue(part.status == 2 or part.seats == size)
                 self.assertGreaterEqual(part.turn, 1)
 
+    def check_told(self, house):
+        """What room, sold, line, find and locator tell is so; and they change nothing."""
+        before = seen(house)
+        for flight in house.flights.values():
+            owned = owned_of(house, flight)
+            for i in range(flight.legs):
+                for j in range(i + 1, flight.legs + 1):
+                    expected = [owned.get((i, j, c), 0) for c in range(flight.classes)]
+                    self.assertEqual(answers_of(house, [11, flight.num, flight.day, i, j])[1:], [0] + expected)
+                    for c in range(flight.classes):
+                        answer = answers_of(house, [10, flight.num, flight.day, i, j, c])[1:]
+                        self.assertEqual(answer, [0, room_left(flight, owned, i, j, c)])
+        waiting = []
+        for record in house.records:
+            for k, part in enumerate(record.content.parts):
+                if part.status == 1:
+                    waiting.append((part.turn, record.place, k + 1))
+        spots = [number for spot in sorted(waiting) for number in spot[1:]]
+        self.assertEqual(answers_of(house, [9])[1:], [0] + spots)
+        for letter in "AC":
+            places = [r.place for r in house.records if any(name.last == letter for name in r.content.names)]
+            self.assertEqual(answers_of(house, [8, 1, ord(letter)])[1:], [0] + places)
+        for record in house.records:
+            letters = [ord(letter) for letter in locator(record.place)]
+            self.assertEqual(answers_of(house, [12, record.place])[1:], [0] + letters)
+            rows = [number for row in record.history for number in row]
+            self.assertEqual(answers_of(house, row_call([7], letters))[1:], [0] + rows)
+        self.assertEqual(seen(house), before)
+
     def run_of_calls(self, seed):
         chance = random.Random(seed)
         house = House()
@@ -121,6 +160,8 @@ class SeatsBelong(unittest.TestCase):
                 told.add(answer[0] if answer[0] < 0 else answer[2])
                 self.assertEqual(seen(house), before)
             self.check(house)
+            if step % 15 == 14:
+                self.check_told(house)
         return told
 
     def test_runs(self):
